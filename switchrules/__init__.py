@@ -1,0 +1,1 @@
+"""Who may talk to whom: groups of addresses, and rules in order."""
