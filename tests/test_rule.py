@@ -1,5 +1,8 @@
 import unittest
 
+from switchrules.groups import answer_call
+from switchrules.reader import read_calls
+from switchrules.switch import Switch
 from tests.helper import GREATEST, LEAST, begin, group, last, line, move, nogroup, norule, rule
 
 
@@ -31,6 +34,13 @@ class Rule(unittest.TestCase):
 
     def test_from_and_to_are_both_kept(self):
         self.assertEqual(order([begin(), group(4), group(7), rule(0, source=7, target=4)], 1), [[4, 7]])
+
+    def test_all_six_numbers_are_kept(self):
+        # No call built so far tells them, so the object itself is looked at.
+        switch = Switch()
+        for call in read_calls(begin() + group(4) + group(7) + rule(0, 0, 7, 4, 17, 80, 90) + rule(0, 1)):
+            answer_call(switch, *call)
+        self.assertEqual([list(told) for told in switch.rules], [[1, -1, -1, -1, 0, 65535], [0, 7, 4, 17, 80, 90]])
 
     def test_place(self):
         for place in (0, 1, 2):
