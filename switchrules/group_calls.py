@@ -1,11 +1,11 @@
 """The calls that make groups and tell of them."""
 
-from switchrules.edges import count_addresses, list_runs
+from switchrules.edges import count_addresses, list_runs, mark
+from switchrules.limits import LAST_ADDRESS, is_address
 from switchrules.switch import is_named_group, is_range
 
 LAST_GROUP = 15
 MOST_NUMBERS = 48
-LAST_ADDRESS = 4294967295
 
 
 def answer_group(switch, number, listed):
@@ -64,7 +64,7 @@ def answer_runs(switch, number):
 def answer_member(switch, number, address):
     if number not in switch.groups:
         return [-1]
-    if not 0 <= address <= LAST_ADDRESS:
+    if not is_address(address):
         return [-2]
     return [1 if switch.groups_holding(address)[number] else 0]
 
@@ -73,3 +73,16 @@ def answer_size(switch, number):
     if number not in switch.groups:
         return [-1]
     return [count_addresses(switch.edges_of(number))]
+
+
+def answer_same(switch, number, other):
+    if number not in switch.groups or other not in switch.groups:
+        return [-1]
+    return [1 if switch.edges_of(number) == switch.edges_of(other) else 0]
+
+
+def answer_inside(switch, number, other):
+    if number not in switch.groups or other not in switch.groups:
+        return [-1]
+    outside = mark(switch.edges_of(number), switch.edges_of(other), False)
+    return [0 if outside else 1]

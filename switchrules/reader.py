@@ -9,9 +9,17 @@ MOVE = 5
 RUNS = 6
 MEMBER = 7
 SIZE = 8
+BLOCKS = 9
+COVER = 10
+SAME = 11
+INSIDE = 12
+ASK = 13
+ROWS = 14
+ROW = 15
+LOOK = 16
+RULES = 17
 
-# How many whole numbers each call has, by its number. Every call of the document is
-# here, since one that comes ahead of begin has to be read to be refused.
+# How many whole numbers each call has, by its number.
 WIDTHS = (1, 1, 1, 7, 1, 2, 1, 2, 1, 1, 3, 2, 2, 4, 0, 1, 4, 0)
 
 

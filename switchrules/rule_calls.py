@@ -1,9 +1,8 @@
-"""The calls that put rules in order."""
+"""The calls that put rules in order, and those that read them."""
+
+from switchrules.limits import ALL, LAST_KIND, LAST_PORT, is_packet
 
 MOST_RULES = 32
-LAST_KIND = 255
-LAST_PORT = 65535
-ALL = -1
 
 
 def answer_rule(switch, place, rule):
@@ -15,7 +14,7 @@ def answer_rule(switch, place, rule):
         return [-3]
     if len(switch.rules) >= MOST_RULES:
         return [-4]
-    switch.rules.insert(place, rule)
+    switch.add_rule(place, rule)
     return [0]
 
 
@@ -32,17 +31,39 @@ def is_side(switch, number):
 def answer_norule(switch, place):
     if not stands(switch, place):
         return [-1]
-    switch.rules.pop(place)
+    switch.drop_rule(place)
     return [0]
 
 
 def answer_move(switch, place, target):
     if not stands(switch, place) or not stands(switch, target):
         return [-1]
-    rule = switch.rules.pop(place)
-    switch.rules.insert(target, rule)
+    switch.move_rule(place, target)
     return [0]
 
 
 def stands(switch, place):
     return 0 <= place < len(switch.rules)
+
+
+def answer_ask(switch, source, target, kind, port):
+    if not is_packet(source, target, kind, port):
+        return [-1]
+    with_source = switch.groups_holding(source)
+    with_target = switch.groups_holding(target)
+    for place, rule in enumerate(switch.rules):
+        sides_fit = fits_side(rule[1], with_source) and fits_side(rule[2], with_target)
+        if sides_fit and (rule[3] == ALL or rule[3] == kind) and rule[4] <= port <= rule[5]:
+            return [0, rule[0], place]
+    return [0, 0, -1]
+
+
+def fits_side(side, holding):
+    return side == ALL or holding[side]
+
+
+def answer_rules(switch):
+    answer = [0, len(switch.rules)]
+    for rule in switch.rules:
+        answer.extend(rule)
+    return answer

@@ -5,6 +5,8 @@ pass, from, to, kind, lo, hi.
 """
 
 from switchrules.edges import mark
+from switchrules.limits import ALL, LAST_ADDRESS
+from switchrules.table import make_table
 
 RANGE_IN = 0
 RANGE_OUT = 1
@@ -19,6 +21,7 @@ class Switch:
         self.groups = {}
         self.rules = []
         self.known_edges = {}
+        self.known_table = None
 
     def has_begun(self):
         return self.most > 0
@@ -28,15 +31,31 @@ class Switch:
         self.groups = {}
         self.rules = []
         self.known_edges = {}
+        self.known_table = None
 
     def set_group(self, number, parts):
         self.groups[number] = parts
-        # Groups of greater ids may be made of this one.
+        # Groups of greater ids may be made of this one, and rules have any of them.
         self.known_edges = {}
+        self.known_table = None
 
     def drop_group(self, number):
         self.groups.pop(number)
         self.known_edges = {}
+        self.known_table = None
+
+    def add_rule(self, place, rule):
+        self.rules.insert(place, rule)
+        self.known_table = None
+
+    def drop_rule(self, place):
+        self.rules.pop(place)
+        self.known_table = None
+
+    def move_rule(self, place, target):
+        rule = self.rules.pop(place)
+        self.rules.insert(target, rule)
+        self.known_table = None
 
     def edges_of(self, number):
         # A group names smaller ids alone: in rising order, what it names is known by then.
@@ -44,6 +63,15 @@ class Switch:
             if other <= number and other not in self.known_edges:
                 self.known_edges[other] = edges_of_parts(self.groups[other], self.known_edges)
         return self.known_edges[number]
+
+    # A side is the from or the to of a rule.
+    def edges_of_side(self, side):
+        return [0, LAST_ADDRESS + 1] if side == ALL else self.edges_of(side)
+
+    def find_table(self):
+        if self.known_table is None:
+            self.known_table = make_table(self)
+        return self.known_table
 
     # For the id of each group, whether the address is in it.
     def groups_holding(self, address):

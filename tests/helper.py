@@ -47,6 +47,51 @@ def size(number):
     return [8, number]
 
 
+def blocks(number):
+    return [9, number]
+
+
+def cover(bits, lo, hi):
+    return [10, bits, lo, hi]
+
+
+def same(number, other):
+    return [11, number, other]
+
+
+def inside(number, other):
+    return [12, number, other]
+
+
+def ask(source, target, kind=0, port=0):
+    return [13, source, target, kind, port]
+
+
+def rows():
+    return [14]
+
+
+def row(place):
+    return [15, place]
+
+
+def look(source, target, kind=0, port=0):
+    return [16, source, target, kind, port]
+
+
+def rules():
+    return [17]
+
+
+def table(*made):
+    """How many raw rows there are, and the table: for each row pass and four fields."""
+    answer, raw, count = last(*made, rows())
+    assert answer == 0
+    told = line(*made, *[row(place) for place in range(count)], row(count))[len(made):]
+    assert told.pop() == [-2] and all(one[0] == 0 and len(one) == 10 for one in told), told
+    return raw, [(one[1], *[tuple(one[i:i + 2]) for i in range(2, 10, 2)]) for one in told]
+
+
 def apart(given):
     """The answers, one list for each call."""
     found = []

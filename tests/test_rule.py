@@ -1,9 +1,6 @@
 import unittest
 
-from switchrules.groups import answer_call
-from switchrules.reader import read_calls
-from switchrules.switch import Switch
-from tests.helper import GREATEST, LEAST, begin, group, last, line, move, nogroup, norule, rule
+from tests.helper import GREATEST, LEAST, begin, group, last, line, move, nogroup, norule, rule, rules
 
 
 def told(count):
@@ -13,12 +10,17 @@ def told(count):
 
 
 def order(made, count):
-    """The groups of the rules in order: all rules but one are taken out, one group is held."""
+    """The groups of the rules in order: all rules but one are taken out, one group is held.
+
+    So it is nogroup that tells them; what rules tells is asked beside it.
+    """
     found = []
     for place in range(count):
         alone = made + [norule(place + 1)] * (count - 1 - place) + [norule(0)] * place
         freed = line(*alone, *[nogroup(i) for i in range(16)])[-16:]
         found.append([i for i in range(16) if freed[i] == [-2]])
+    listed = last(*made, rules())[2:]
+    assert found == [sorted({*listed[i + 1:i + 3]} - {-1}) for i in range(0, len(listed), 6)]
     return found
 
 
@@ -36,11 +38,8 @@ class Rule(unittest.TestCase):
         self.assertEqual(order([begin(), group(4), group(7), rule(0, source=7, target=4)], 1), [[4, 7]])
 
     def test_all_six_numbers_are_kept(self):
-        # No call built so far tells them, so the object itself is looked at.
-        switch = Switch()
-        for call in read_calls(begin() + group(4) + group(7) + rule(0, 0, 7, 4, 17, 80, 90) + rule(0, 1)):
-            answer_call(switch, *call)
-        self.assertEqual([list(told) for told in switch.rules], [[1, -1, -1, -1, 0, 65535], [0, 7, 4, 17, 80, 90]])
+        made = (begin(), group(4), group(7), rule(0, 0, 7, 4, 17, 80, 90), rule(0, 1))
+        self.assertEqual(last(*made, rules()), [0, 2, 1, -1, -1, -1, 0, 65535, 0, 7, 4, 17, 80, 90])
 
     def test_place(self):
         for place in (0, 1, 2):
